@@ -1,0 +1,1 @@
+"""The lake and the seasons: what is sure whatever weather comes."""
