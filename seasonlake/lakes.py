@@ -19,6 +19,10 @@ class Lake:
         self.tables = tables
 
 
+def greater_lake(lake, more):
+    return Lake(lake.holds + more, lake.seasons, lake.gate, lake.rest, lake.kinds, lake.tables)
+
+
 def season_table(lake, season):
     return lake.tables[season % len(lake.tables)]
 

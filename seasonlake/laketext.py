@@ -2,6 +2,7 @@
 
 from seasonlake.lakes import Kind, Lake
 from seasonlake.pieces import NO_KIND, TOO_OFTEN, Reader, WrongText
+from seasonlake.showing import byte_row, shown_line
 
 MOST_HELD = 40
 MOST_SEASONS = 24
@@ -97,15 +98,11 @@ def read_lake(text):
     return Lake(holds, seasons, gate, rest, kinds, tables)
 
 
-def line(words):
-    return " ".join([str(word) for word in words]) + ";\n"
-
-
 def show_lake(lake):
-    shown = line(["holds", lake.holds, "seasons", lake.seasons, "gate", lake.gate, "rest", lake.rest])
+    shown = shown_line(["holds", lake.holds, "seasons", lake.seasons, "gate", lake.gate, "rest", lake.rest])
     for kind in lake.kinds:
         follows = [lake.kinds[number].name for number in kind.follows]
-        shown += line(["weather", kind.name, "brings", kind.brings, "then"] + follows)
+        shown += shown_line(["weather", kind.name, "brings", kind.brings, "then"] + follows)
     for table in lake.tables:
-        shown += line(["yields"] + table)
-    return [ord(sign) for sign in shown]
+        shown += shown_line(["yields"] + table)
+    return byte_row(shown)

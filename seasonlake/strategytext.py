@@ -1,23 +1,12 @@
-"""A strategy as it was told, and its text, read against a lake."""
+"""A strategy's text: read against a lake, and shown."""
 
 from seasonlake.pieces import CANNOT_STAND, NO_KIND, TOO_OFTEN, Reader, WrongText
+from seasonlake.showing import byte_row, shown_line
+from seasonlake.strategies import Rule, Strategy
 
 MOST_LEVEL = 40
 MOST_LET = 10
 MOST_RULES = 12
-
-
-class Rule:
-    # conditions: tuples ("least", level), ("most", level), ("was", kind's number), ("season", first, last).
-    def __init__(self, conditions, letting):
-        self.conditions = conditions
-        self.letting = letting
-
-
-class Strategy:
-    def __init__(self, rules, otherwise):
-        self.rules = rules
-        self.otherwise = otherwise
 
 
 def read_level(reader):
@@ -81,3 +70,27 @@ def read_strategy(text, lake):
     otherwise = read_letting(reader)
     reader.take_end()
     return Strategy(rules, otherwise)
+
+
+def condition_words(lake, condition):
+    if condition[0] == "was":
+        return ["was", lake.kinds[condition[1]].name]
+    if condition[0] == "season":
+        return ["season", condition[1], "to", condition[2]]
+    return ["level", condition[0], condition[1]]
+
+
+def rule_words(lake, rule):
+    words = ["when"]
+    for number, condition in enumerate(rule.conditions):
+        if number > 0:
+            words.append("and")
+        words.extend(condition_words(lake, condition))
+    return words + ["let", rule.letting]
+
+
+def show_strategy(lake, strategy):
+    shown = ""
+    for rule in strategy.rules:
+        shown += shown_line(rule_words(lake, rule))
+    return byte_row(shown + shown_line(["else", "let", strategy.otherwise]))

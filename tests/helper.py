@@ -62,6 +62,38 @@ def strategy(text):
     return [7] + with_count(as_bytes(text))
 
 
+def told():
+    return [8]
+
+
+def sure(level, before):
+    return [9, level, before]
+
+
+def against(level, before, weather):
+    return [10, level, before] + with_count(weather)
+
+
+def known(level, before, weather):
+    return [11, level, before] + with_count(weather)
+
+
+def more(number, level, before):
+    return [12, number, level, before]
+
+
+def weathers():
+    return [13]
+
+
+def counts():
+    return [14]
+
+
+def clear():
+    return [15]
+
+
 def ask(*calls):
     """The answers of one list of calls, one list of numbers for each."""
     given = answers([number for call in calls for number in call])
@@ -75,11 +107,11 @@ def ask(*calls):
     return apart
 
 
-def ask_many(text, calls):
-    """As ask behind a lake call, with no more than twenty calls in one list."""
+def ask_many(text, calls, strategy_text="else let 0;"):
+    """As ask behind the calls lake and strategy, with no more than twenty calls in one list."""
     given = []
     for first in range(0, len(calls), 20):
-        given += ask(lake(text), *calls[first:first + 20])[1:]
+        given += ask(lake(text), strategy(strategy_text), *calls[first:first + 20])[2:]
     return given
 
 
@@ -155,6 +187,81 @@ class PlainLake:
 
     def states(self):
         return list(product(range(self.holds + 1), range(len(self.kinds))))
+
+    def had_against(self, level, before, weather, lettings):
+        """What fixed lettings bring against a weather, or None where one is more than the level."""
+        had = 0
+        for season, (letting, kind) in enumerate(zip(lettings, weather)):
+            if letting > level:
+                return None
+            had += self.yielded(season, letting)
+            level = self.after(level, letting, kind)
+        return had + self.rest * level
+
+    def most_known(self, level, before, weather):
+        tried = [
+            self.had_against(level, before, weather, lettings)
+            for lettings in product(range(self.gate + 1), repeat=self.seasons)
+        ]
+        return max(had for had in tried if had is not None)
+
+    def holding(self, more):
+        return PlainLake(self.holds + more, self.seasons, self.gate, self.rest, self.kinds, self.tables)
+
+
+class PlainStrategy:
+    """Rules: each a list of conditions (their words) and a letting; otherwise what else lets."""
+
+    def __init__(self, rules, otherwise):
+        self.rules, self.otherwise = rules, otherwise
+
+    def text(self):
+        rows = []
+        for conditions, letting in self.rules:
+            rows.append(f"when {' and '.join(' '.join(map(str, words)) for words in conditions)} let {letting};\n")
+        return "".join(rows) + f"else let {self.otherwise};\n"
+
+    def letting(self, plain, season, level, before):
+        wanted = self.otherwise
+        for conditions, letting in reversed(self.rules):
+            if all(self.met(plain, words, season, level, before) for words in conditions):
+                wanted = letting
+        return max(letting for letting in plain.lettings(level) if letting <= wanted)
+
+    @staticmethod
+    def met(plain, words, season, level, before):
+        if words[0] == "was":
+            return plain.kinds[before][0] == words[1]
+        if words[0] == "season":
+            return season in range(words[1], words[3] + 1)
+        return level >= words[2] if words[1] == "least" else level <= words[2]
+
+    def gone_by(self, plain, level, before, weather):
+        def choose(season, level, before):
+            return self.letting(plain, season, level, before), weather[season]
+
+        return plain.gone_by(level, before, len(weather), choose)
+
+    def sure_of(self, plain, level, before):
+        every = plain.weathers(before, plain.seasons)
+        return min(self.gone_by(plain, level, before, weather)[0] for weather in every)
+
+
+def some_strategy(random, plain):
+    """A strategy for that lake, whose rules often hold at some levels, seasons and kinds only."""
+    def condition():
+        first = random.randrange(plain.seasons)
+        return random.choice([
+            ("level", random.choice(["least", "most"]), random.randint(0, plain.holds + 1)),
+            ("was", random.choice(plain.kinds)[0]),
+            ("season", first, "to", random.randrange(first, plain.seasons)),
+        ])
+
+    rules = [
+        ([condition() for _ in range(random.randint(1, 3))], random.choice([0, 1, 1, 2, 3, 10]))
+        for _ in range(random.randint(0, 5))
+    ]
+    return PlainStrategy(rules, random.choice([0, 1, 2, 10]))
 
 
 def small_lakes(random, many):

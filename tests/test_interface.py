@@ -3,9 +3,12 @@
 import copy
 import time
 import unittest
+from pathlib import Path
 
 from seasonlake.gates import answers
-from tests.helper import SMALL, ask, at, lake, play, shown, strategy, table, where, worst
+from tests.helper import (
+    SMALL, against, ask, at, clear, counts, known, lake, more, play, shown, strategy, sure, table, told, weathers, where, worst,
+)
 
 GREATEST = (
     "holds 40 seasons 24 gate 10 rest 99;"
@@ -36,15 +39,41 @@ class Layout(unittest.TestCase):
             1, 0,
         ])
 
+    def test_the_whole_answer_of_the_later_calls(self):
+        calls = [lake(SMALL), told(), strategy("when was dry let 1;else let 2;"), sure(3, 0), against(3, 0, [0, 1]), against(3, 1, []),
+                 against(3, 1, [1]), known(3, 0, [1, 0]), known(3, 0, [1]), more(2, 3, 0), more(36, 3, 0), weathers(), counts(),
+                 clear(), counts(), clear()]
+        self.assertEqual(answers(flat(calls)), [
+            3, 0, 2, 2,
+            13, 0, 101, 108, 115, 101, 32, 108, 101, 116, 32, 48, 59, 10,
+            2, 0, 1,
+            3, 0, 10, 14,
+            8, 0, 22, 1, 0, 2, 1, 1, 5,
+            2, 0, 0,
+            1, -3,
+            2, 0, 25,
+            1, -1,
+            3, 0, 14, 14,
+            1, -3,
+            17, 0, 2, 3, 100, 114, 121, 0, 2, 0, 1, 3, 119, 101, 116, 4, 1, 0,
+            8, 0, 5, 2, 2, 3, 2, 2, 1,
+            1, 0,
+            1, -20,
+            1, 0,
+        ])
+
     def test_numbers_as_they_stand(self):
         self.assertEqual(answers([2]), [1, -20])
         self.assertEqual(answers([0, 0]), [3, 1, 1, 0])
         self.assertEqual(answers([1, 1, 63]), [3, 1, 1, 0])
         self.assertEqual(answers([3, 0, 0, 0, 4, 0, 0, 5, 0, 0, 6, 0, 0, 0, 7, 0]), [1, -20] * 5)
         self.assertEqual(answers([6, 0, 0, 2, 7, 7, 6, 0, 0, 0, 1, 0]), [1, -20, 1, -20, 3, 1, 1, 0])
+        self.assertEqual(answers([8, 9, 8, 8, 10, 8, 8, 1, 8, 11, 8, 8, 2, 8, 8, 12, 8, 8, 8, 13, 14, 15]), [1, -20] * 7 + [1, 0])
+        self.assertEqual(answers([10, 0, 0, 0, 11, 0, 0, 0, 15, 1, 0]), [1, -20, 1, -20, 1, 0, 3, 1, 1, 0])
 
     def test_whole_numbers_alone(self):
-        calls = [lake(SMALL), shown(), at(0, 0, 0), table(0, 0), worst(0, 0), play(0, 0, [0, 0]), strategy("else let 0;"), where("")]
+        calls = [lake(SMALL), shown(), at(0, 0, 0), table(0, 0), worst(0, 0), play(0, 0, [0, 0]), strategy("else let 0;"), where(""),
+                 told(), sure(0, 0), against(0, 0, [0, 0]), known(0, 0, [0, 0]), more(0, 0, 0), weathers(), counts(), clear(), told()]
         given = answers(flat(calls))
         self.assertIs(type(given), list)
         self.assertEqual({type(number) for number in given}, {int})
@@ -52,10 +81,25 @@ class Layout(unittest.TestCase):
     def test_refused_lists_are_passed_over_whole(self):
         calls = [lake(1600 * [2]), lake(SMALL), play(0, 0, 40 * [2]), where(1501 * [0]), strategy(1600 * [5]), table(2, 0)]
         self.assertEqual(ask(*calls), [[-1], [0, 2, 2], [-1], [-1], [-1], [0, 0, 3, 6, 9, 12, 15]])
+        calls = [lake(SMALL), against(0, 0, 40 * [15]), known(0, 0, 40 * [15]), known(0, 0, 3 * [15]), counts()]
+        self.assertEqual(ask(*calls)[1:], [[-1], [-1], [-1], [0, 5, 2, 2, 3, 2, 2, 0]])
+
+
+class Readme(unittest.TestCase):
+    def test_its_example(self):
+        text = (Path(__file__).resolve().parent.parent / "README.md").read_text()
+        example = text.split("```python\n")[1].split("```")[0]
+        printed = []
+        exec(example, {"print": printed.append})
+        self.assertEqual("# " + str(printed[0]), example.strip().split("\n")[-1])
 
 
 class NothingIsKept(unittest.TestCase):
-    CALLS = flat([lake(SMALL), shown(), at(1, 2, 0), worst(5, 0), play(5, 0, [1, 0]), strategy("else let 2;"), lake("?"), where("?")])
+    CALLS = flat([
+        lake(SMALL), shown(), at(1, 2, 0), worst(5, 0), play(5, 0, [1, 0]), told(), strategy("else let 2;"), lake("?"), where("?"),
+        told(), sure(3, 0), against(5, 0, [1, 0]), known(5, 0, [1, 0]), more(3, 5, 0), weathers(), counts(), more(40, 5, 0),
+        known(5, 0, [1, 1]), clear(), counts(), lake(SMALL), told(), sure(3, 0), strategy("when was wet let 1;else let 2;"),
+    ])
 
     def test_the_list_handed_in_stays_as_it_was(self):
         handed = list(self.CALLS)
@@ -75,6 +119,17 @@ class NothingIsKept(unittest.TestCase):
         kept = list(first)
         first.clear()
         self.assertEqual(answers(list(self.CALLS)), kept)
+
+
+    def test_the_list_may_be_one_that_cannot_be_changed(self):
+        class Fixed(list):
+            def refuse(self, *given):
+                raise AssertionError("what is handed in was changed")
+
+            append = extend = insert = pop = remove = clear = sort = reverse = refuse
+            __setitem__ = __delitem__ = __iadd__ = __imul__ = refuse
+
+        self.assertEqual(answers(Fixed(self.CALLS)), answers(list(self.CALLS)))
 
 
 class Speed(unittest.TestCase):
@@ -101,6 +156,22 @@ class Speed(unittest.TestCase):
         calls = [lake(GREATEST)] + 20 * [worst(40, 0)] + 99 * [shown()]
         given = self.within_seconds(calls)
         self.assertEqual({tuple(row) for row in given[1:21]}, {tuple(given[1])})
+
+    def test_the_longest_strategies(self):
+        # All conditions but the last hold everywhere.
+        long = "when " + 89 * "level least0and " + "level least40let 1;else let 2;"
+        self.assertLessEqual(len(long), 1500)
+        calls = [lake(GREATEST)]
+        for number in range(9):
+            calls += [strategy(long), sure(40, number % 4), sure(39, 0)] + 7 * [against(39, 0, 24 * [0])]
+        given = self.within_seconds(calls)
+        self.assertEqual({row[0] for row in given}, {0})
+
+    def test_many_known_and_many_more(self):
+        calls = [lake(GREATEST)] + 20 * [sure(40, 0)] + 99 * [known(40, 3, 24 * [1])]
+        self.assertEqual({row[0] for row in self.within_seconds(calls)}, {0})
+        calls = 20 * [lake(GREATEST.replace("holds 40", "holds 39")), more(1, 39, 0)]
+        self.assertEqual({row[0] for row in self.within_seconds(calls)}, {0})
 
     def test_the_longest_texts(self):
         long = 500 * "a ;" + 100 * "a"

@@ -150,7 +150,7 @@ class Language(unittest.TestCase):
             self.assertEqual(node.decorator_list, [], node.name)
         for stem, node in self.nodes(ast.arguments):
             self.assertIsNone(node.vararg or node.kwarg)
-            self.assertEqual(node.kwonlyargs + node.posonlyargs, [])
+            self.assertEqual(node.kwonlyargs + node.posonlyargs + node.defaults, [])
         for stem, node in self.nodes(ast.ClassDef):
             self.assertLessEqual(len(node.bases), 1)
             for part in node.body:
@@ -174,6 +174,42 @@ class Language(unittest.TestCase):
             name = node.func.id if isinstance(node.func, ast.Name) else node.func.attr
             if name in WALKED + ["items", "keys", "values"]:
                 self.assertIn(node, walked, (stem, node.lineno))
+
+    def test_errors(self):
+        own = [node.name for stem, node in self.nodes(ast.ClassDef) if node.bases]
+        for stem, node in self.nodes(ast.ExceptHandler):
+            self.assertIn(node.type.id, own, (stem, node.lineno))
+        for stem, node in self.nodes(ast.Raise):
+            self.assertIsInstance(node.exc, ast.Call, (stem, node.lineno))
+
+    def test_methods_are_called_where_they_stand(self):
+        called = {node.func for stem, node in self.nodes(ast.Call)}
+        for stem, node in self.nodes(ast.Attribute):
+            if node.attr in self.own_methods() | set(METHODS):
+                self.assertIn(node, called, (stem, node.lineno))
+
+    def test_pythons_own_functions_and_classes_are_not_handed_on(self):
+        classes = {node.name for stem, node in self.nodes(ast.ClassDef)}
+        fine = {node.func for stem, node in self.nodes(ast.Call)}
+        fine |= {base for stem, node in self.nodes(ast.ClassDef) for base in node.bases}
+        fine |= {node.type for stem, node in self.nodes(ast.ExceptHandler)}
+        fine |= {node.value for stem, node in self.nodes(ast.Attribute) if node.attr == "__init__"}
+        for stem, node in self.nodes(ast.Name):
+            if node.id in classes or node.id in OWN_NAMES:
+                self.assertIn(node, fine, (stem, node.lineno))
+            self.assertNotIn(node.id, ("set", "frozenset"))
+
+    def test_tops_are_only_read(self):
+        for stem, tree in self.trees.items():
+            tops = [node for node in tree.body if isinstance(node, ast.Assign) and isinstance(node.value, (ast.Tuple, ast.List, ast.Dict))]
+            names = [node.targets[0].id for node in tops]
+            read = {node.value for node in ast.walk(tree) if isinstance(node, ast.Subscript) and isinstance(node.ctx, ast.Load)}
+            for node in ast.walk(tree):
+                if isinstance(node, ast.Compare) and isinstance(node.ops[0], (ast.In, ast.NotIn)):
+                    read.add(node.comparators[0])
+            for node in ast.walk(tree):
+                if isinstance(node, ast.Name) and node.id in names and isinstance(node.ctx, ast.Load):
+                    self.assertIn(node, read, (stem, node.lineno))
 
     def test_texts(self):
         for stem, node in self.nodes(ast.Constant):

@@ -159,14 +159,13 @@ class WhatsAlwaysSo(unittest.TestCase):
         self.lakes = small_lakes(Random(23), 30)
 
     def test_best_lettings_have_what_is_sure_whatever_weather_comes(self):
-        random = Random(2)
         for small in self.lakes:
-            level, before = random.choice(small.states())
-            weathers = small.weathers(before, small.seasons)
-            calls = [at(0, level, before)] + [play(level, before, weather) for weather in weathers]
-            given = ask_many(small.text(), calls)
-            had = [row[1] for row in given[1:]]
-            self.assertEqual(min(had), given[0][1], small.text())
+            for level, before in small.states()[::3]:
+                weathers = small.weathers(before, small.seasons)
+                calls = [at(0, level, before)] + [play(level, before, weather) for weather in weathers]
+                given = ask_many(small.text(), calls)
+                had = [row[1] for row in given[1:]]
+                self.assertEqual(min(had), given[0][1], small.text())
 
     def test_the_weather_holds_every_letting_down_to_what_is_sure(self):
         random = Random(4)

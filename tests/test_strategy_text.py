@@ -2,7 +2,6 @@
 
 import unittest
 
-from seasonlake.keeper import Keeper, answer_call
 from tests.helper import GRAMMAR_WORDS, SMALL, as_bytes, ask, lake, marked, shown, strategy
 
 LONG = SMALL.replace("seasons 2", "seasons 24")
@@ -144,44 +143,6 @@ class AgainstTheLakeThatIsThereNow(StrategyTexts):
         given = ask(lake(SMALL), strategy(RULE + ELSE), shown(), strategy("else"), shown())
         self.assertEqual(given[2], [0] + as_bytes(SMALL))
         self.assertEqual(given[4], given[2])
-
-
-class WhatIsKept(unittest.TestCase):
-    """No call tells the strategy yet: what is kept of it is looked at in the keeper."""
-
-    def setUp(self):
-        self.keeper = Keeper()
-        self.tell(0, SMALL)
-
-    def tell(self, call, text):
-        return answer_call(self.keeper, call, [], as_bytes(text))
-
-    def kept(self):
-        rules = [(list(rule.conditions), rule.letting) for rule in self.keeper.strategy.rules]
-        return rules, self.keeper.strategy.otherwise
-
-    def test_a_new_lake_has_else_let_0(self):
-        self.assertEqual(self.kept(), ([], 0))
-        self.tell(7, RULE + "else let 4;")
-        self.assertEqual(self.kept(), ([([("least", 3)], 2)], 4))
-        self.tell(0, SMALL)
-        self.assertEqual(self.kept(), ([], 0))
-
-    def test_rules_as_told(self):
-        self.tell(7, "when level most 7 and was wet let 1;when season 0 to 1 and was dry let 10;else let 5;")
-        self.assertEqual(
-            self.kept(), ([([("most", 7), ("was", 1)], 1), ([("season", 0, 1), ("was", 0)], 10)], 5)
-        )
-
-    def test_wrong_texts_and_refusals_keep_the_strategy(self):
-        self.tell(7, RULE + "else let 4;")
-        before = self.kept()
-        self.assertEqual(self.tell(7, "else let 5;else"), [1, 1, 11])
-        self.assertEqual(self.tell(7, [256]), [-1])
-        self.assertEqual(self.tell(0, "holds 9"), [1, 1, 7])
-        self.assertEqual(self.tell(0, [-1]), [-1])
-        self.assertEqual(self.tell(1, SMALL), [0])
-        self.assertEqual(self.kept(), before)
 
 
 if __name__ == "__main__":
